@@ -1,0 +1,1 @@
+"""Documents changed by operations: the calls are in patchwords.documents."""

@@ -1,0 +1,17 @@
+"""The refusals, one error class each; the calls turn them into their numbers."""
+
+
+class NotDocument(Exception):
+    pass
+
+
+class NotPointer(Exception):
+    pass
+
+
+class Nowhere(Exception):
+    pass
+
+
+class TooLarge(Exception):
+    pass
