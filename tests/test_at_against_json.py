@@ -1,4 +1,4 @@
-"""at beside an answer that Python's own json gives: every short document, and every small change to a longer one."""
+"""at beside an answer that Python's own json gives: all short rows of some chosen signs, and small changes to a longer one."""
 import itertools
 import unittest
 
@@ -27,14 +27,14 @@ class AgainstJson(unittest.TestCase):
                 self.fail(f"{t!r}: answered {found!r}, not {wanted!r}")
         self.assertGreater(min(seen.values()), 0, "both kinds are to be met")
 
-    def test_every_short_document(self):
+    def test_short_documents(self):
         for size in range(1, 5):
             self.check(bytes(row) for row in itertools.product(b'[]{},:"\\0-1n \n', repeat=size))
 
-    def test_every_short_document_in_a_member(self):
+    def test_short_documents_in_a_member(self):
         self.check(b'{"a":' + bytes(row) for row in itertools.product(b'[]{},:"a 1', repeat=4))
 
-    def test_every_short_text(self):
+    def test_short_texts(self):
         signs = b'"\\u/a\x00\x1f\x20\x7f\x80\x8f\x90\x9f\xa0\xbf\xc0\xc1\xc2\xe0\xe1\xed\xee\xf0'
         for size in (1, 2, 3):
             self.check(b'"' + bytes(row) + b'"' for row in itertools.product(signs, repeat=size))
