@@ -1,20 +1,37 @@
 """The calls: lists of bytes are handed in, a list of whole numbers is answered."""
+from patchwords.changes import all_done
+from patchwords.operations import read_operations
 from patchwords.pointers import follow, read_pointer
 from patchwords.reading import read_document
-from patchwords.refusals import NotDocument, NotPointer, Nowhere, TooLarge
+from patchwords.refusals import NotDocument, NotDone, NotOperations, NotPointer, Nowhere, TooLarge
 from patchwords.writing import written
 
 
 def at(t, p):
+    return answered(found_at, t, p)
+
+
+def patch(t, p):
+    return answered(patched, t, p)
+
+
+def found_at(document, p):
+    return follow(document, read_pointer(p))
+
+
+def patched(document, p):
+    return all_done(document, read_operations(p))
+
+
+def answered(work, t, p):
     try:
         document = read_document(t)
-        names = read_pointer(p)
-        found = written(follow(document, names))
+        found = written(work(document, p))
     except NotDocument:
         return [-3]
-    except NotPointer:
+    except (NotPointer, NotOperations):
         return [-4]
-    except Nowhere:
+    except (Nowhere, NotDone):
         return [-5]
     except TooLarge:
         return [-7]

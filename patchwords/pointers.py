@@ -50,12 +50,15 @@ def follow(value, names):
 
 
 def step(value, name):
-    if isinstance(value, dict):
-        if name not in value:
-            raise Nowhere()
-        return value[name]
-    if isinstance(value, list):
-        return value[place_of(name, len(value))]
+    return value.content[key_of(value, name)]
+
+
+# The name itself in members, the place in a list.
+def key_of(value, name):
+    if isinstance(value.content, dict) and name in value.content:
+        return name
+    if isinstance(value.content, list):
+        return place_of(name, len(value.content))
     raise Nowhere()
 
 

@@ -1,15 +1,12 @@
-"""Reads the bytes of a document into a value.
-
-A value is None, True, False, a whole number, a text, a list of values, or a dict of values by their names.
-A text, and so a name, is the tuple of its bytes in UTF-8.
-"""
+"""Reads the bytes of a document into a value, as patchwords.values tells of it."""
 from patchwords.characters import character_bytes, is_utf8
 from patchwords.refusals import NotDocument
 from patchwords.signs import BACKSLASH, BLANK, BLANKS, CLOSE_LIST, CLOSE_MEMBERS, COLON, COMMA, LARGE_A, LARGE_F
 from patchwords.signs import MINUS, OPEN_LIST, OPEN_MEMBERS, QUOTE, SMALL_A, SMALL_F, SMALL_U, ZERO
 from patchwords.signs import is_digit, spelled
+from patchwords.values import list_value, members_value, plain_value, text_value
 
-DEEPEST = 32
+DEEPEST_DOCUMENT = 32
 LARGEST = 9223372036854775807
 # No byte has this number, so it stands for the end of the bytes.
 END = 256
@@ -19,17 +16,22 @@ ESCAPES = {0x22: 0x22, 0x5C: 0x5C, 0x2F: 0x2F, 0x62: 0x08, 0x66: 0x0C, 0x6E: 0x0
 
 
 def read_document(source):
+    return read_nested(source, DEEPEST_DOCUMENT)
+
+
+def read_nested(source, deepest):
     if not is_utf8(source):
         raise NotDocument()
-    reader = Reader(source)
+    reader = Reader(source, deepest)
     value = reader.read_value(0)
     reader.expect(END)
     return value
 
 
 class Reader:
-    def __init__(self, source):
+    def __init__(self, source, deepest):
         self.source = source
+        self.deepest = deepest
         self.place = 0
 
     def peek(self):
@@ -70,38 +72,38 @@ class Reader:
         if sign == OPEN_MEMBERS:
             return self.read_members(depth + 1)
         if sign == QUOTE:
-            return self.read_text()
+            return text_value(self.read_text())
         if sign == MINUS or is_digit(sign):
-            return self.read_number()
-        return self.read_word()
+            return plain_value(self.read_number())
+        return plain_value(self.read_word())
 
     def read_list(self, depth):
         self.enter(OPEN_LIST, depth)
         listed = []
         if self.take_if(CLOSE_LIST):
-            return listed
+            return list_value(listed)
         while True:
             listed.append(self.read_value(depth))
             if self.take_if(CLOSE_LIST):
-                return listed
+                return list_value(listed)
             self.expect(COMMA)
 
     def read_members(self, depth):
         self.enter(OPEN_MEMBERS, depth)
         members = {}
         if self.take_if(CLOSE_MEMBERS):
-            return members
+            return members_value(members)
         while True:
             name = self.read_name()
             if name in members:
                 raise NotDocument()
             members[name] = self.read_value(depth)
             if self.take_if(CLOSE_MEMBERS):
-                return members
+                return members_value(members)
             self.expect(COMMA)
 
     def enter(self, opening, depth):
-        if depth > DEEPEST:
+        if depth > self.deepest:
             raise NotDocument()
         self.expect(opening)
         self.skip_blanks()

@@ -9,7 +9,15 @@ class NotPointer(Exception):
     pass
 
 
+class NotOperations(Exception):
+    pass
+
+
 class Nowhere(Exception):
+    pass
+
+
+class NotDone(Exception):
     pass
 
 

@@ -1,4 +1,4 @@
-"""Writes a value, as patchwords.reading tells of it, into bytes."""
+"""Writes a value, as patchwords.values tells of it, into bytes."""
 from patchwords.refusals import TooLarge
 from patchwords.signs import BACKSLASH, BLANK, CLOSE_LIST, CLOSE_MEMBERS, COLON, COMMA, OPEN_LIST, OPEN_MEMBERS
 from patchwords.signs import QUOTE, spelled
@@ -8,66 +8,67 @@ DEEPEST_WRITTEN = 64
 DIGITS = "0123456789abcdef"
 
 
-def written(value):
-    out = []
-    write_value(value, 0, out)
-    if len(out) > MOST_BYTES:
+def check_size(value):
+    if value.size > MOST_BYTES or value.depth > DEEPEST_WRITTEN:
         raise TooLarge()
+
+
+def written(value):
+    # Asked ahead of writing, so that nothing deep is ever gone through.
+    check_size(value)
+    out = []
+    write_value(value.content, out)
     return out
 
 
-def write_value(value, depth, out):
-    if isinstance(value, list):
-        write_list(value, depth + 1, out)
-    elif isinstance(value, dict):
-        write_members(value, depth + 1, out)
-    elif isinstance(value, tuple):
-        write_text(value, out)
+def write_value(content, out):
+    if isinstance(content, list):
+        write_list(content, out)
+    elif isinstance(content, dict):
+        write_members(content, out)
+    elif isinstance(content, tuple):
+        out.extend(text_bytes(content))
     else:
-        out.extend(spelled(plain_word(value)))
+        out.extend(plain_bytes(content))
 
 
-def plain_word(value):
+def plain_bytes(content):
     # These go ahead of whole numbers: to Python True and False are such.
-    if value is None:
-        return "null"
-    if value is True:
-        return "true"
-    if value is False:
-        return "false"
-    return str(value)
+    if content is None:
+        return spelled("null")
+    if content is True:
+        return spelled("true")
+    if content is False:
+        return spelled("false")
+    return spelled(str(content))
 
 
-def write_list(listed, depth, out):
-    check_depth(depth)
+def write_list(listed, out):
     out.append(OPEN_LIST)
     for place, value in enumerate(listed):
         if place > 0:
             out.append(COMMA)
-        write_value(value, depth, out)
+        write_value(value.content, out)
     out.append(CLOSE_LIST)
 
 
-def write_members(members, depth, out):
-    check_depth(depth)
+def write_members(members, out):
     out.append(OPEN_MEMBERS)
     for place, name in enumerate(members):
         if place > 0:
             out.append(COMMA)
-        write_text(name, out)
-        out.append(COLON)
-        write_value(members[name], depth, out)
+        out.extend(name_bytes(name))
+        write_value(members[name].content, out)
     out.append(CLOSE_MEMBERS)
 
 
-def check_depth(depth):
-    if depth > DEEPEST_WRITTEN:
-        raise TooLarge()
+def name_bytes(name):
+    return text_bytes(name) + [COLON]
 
 
-def write_text(content, out):
-    out.append(QUOTE)
-    for sign in content:
+def text_bytes(text):
+    out = [QUOTE]
+    for sign in text:
         if sign < BLANK:
             out.extend(spelled("\\u00" + DIGITS[sign // 16] + DIGITS[sign % 16]))
         else:
@@ -75,3 +76,4 @@ def write_text(content, out):
                 out.append(BACKSLASH)
             out.append(sign)
     out.append(QUOTE)
+    return out

@@ -1,7 +1,9 @@
 """What the tests of the calls share: calling with bytes, and an answer made with Python's own json."""
 import json
 
-from patchwords.documents import at
+from patchwords.documents import at, patch
+
+NOT_DOCUMENT = -3
 
 
 class Unchanging(list):
@@ -14,9 +16,9 @@ class Unchanging(list):
     __setitem__ = __delitem__ = __iadd__ = __imul__ = refuse
 
 
-def ask_at(t, p=b""):
+def ask(call, t, p):
     """A refusal's number, or the bytes that were answered."""
-    answer = at(Unchanging(t), Unchanging(p))
+    answer = call(Unchanging(t), Unchanging(p))
     if type(answer) is not list or any(type(number) is not int for number in answer):
         raise AssertionError(f"not a list of whole numbers: {answer!r}")
     if answer[0] < 0:
@@ -26,6 +28,14 @@ def ask_at(t, p=b""):
     if answer[0] != len(answer) - 1:
         raise AssertionError(f"{answer[0]} bytes were told, {len(answer) - 1} came")
     return bytes(answer[1:])
+
+
+def ask_at(t, p=b""):
+    return ask(at, t, p)
+
+
+def ask_patch(t, p):
+    return ask(patch, t, p)
 
 
 def refuse_value(text):
@@ -68,13 +78,20 @@ def write(value):
     return json.dumps(value).encode("ascii")
 
 
+def read(t, deepest):
+    """The value of t, told without the program; ValueError if there is none."""
+    value = json.loads(t.decode("utf-8"), object_pairs_hook=members, parse_int=whole_number,
+                       parse_float=refuse_value, parse_constant=refuse_value)
+    # One half of a character alone can't be encoded, and so is refused here.
+    write(value)
+    if depth(value) > deepest:
+        raise ValueError("nested too deep")
+    return value
+
+
 def expected_whole(t):
     """What at is to answer for all of t, told without the program."""
     try:
-        value = json.loads(t.decode("utf-8"), object_pairs_hook=members, parse_int=whole_number,
-                           parse_float=refuse_value, parse_constant=refuse_value)
-        # One half of a character alone can't be encoded, and so is refused here.
-        found = write(value)
+        return write(read(t, 32))
     except ValueError:
-        return -3
-    return found if depth(value) <= 32 else -3
+        return NOT_DOCUMENT

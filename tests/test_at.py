@@ -3,10 +3,9 @@ import contextlib
 import io
 import unittest
 
-from asking import ask_at
+from asking import NOT_DOCUMENT, ask_at
 from patchwords.documents import at
 
-NOT_DOCUMENT = -3
 NOT_POINTER = -4
 NOWHERE = -5
 

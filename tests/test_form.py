@@ -122,6 +122,38 @@ class Form(unittest.TestCase):
             elif name in dir(builtins):
                 self.assertIn(name, BUILT_IN)
 
+    def test_l5_classes(self):
+        for node in self.nodes(ast.ClassDef):
+            self.assertEqual(node.decorator_list, [])
+            self.assertLessEqual(len(node.bases), 1)
+            for row in node.body:
+                self.assertIsInstance(row, (ast.FunctionDef, ast.Pass))
+
+    def test_l15_names_of_the_file(self):
+        for name, tree in self.trees.items():
+            taken = {row.name for row in tree.body if isinstance(row, ast.ClassDef)}
+            taken |= {alias.name for row in tree.body if isinstance(row, ast.ImportFrom) for alias in row.names}
+            for node in ast.walk(tree):
+                if isinstance(node, ast.arg):
+                    self.assertNotIn(node.arg, taken, name)
+                if isinstance(node, ast.Name) and isinstance(node.ctx, ast.Store):
+                    self.assertNotIn(node.id, taken, name)
+
+    def test_l18_l26_values_of_objects(self):
+        methods = {row.name for node in self.nodes(ast.ClassDef) for row in node.body if isinstance(row, ast.FunctionDef)}
+        taken = {name for kind in (str, int, list, tuple, dict, set, bytes) for name in dir(kind)}
+        kept = {node.attr for node in self.nodes(ast.Attribute) if isinstance(node.ctx, ast.Store)}
+        self.assertEqual(kept & (methods | taken), set())
+
+    def test_l19_errors(self):
+        for node in self.nodes(ast.ExceptHandler):
+            taken = node.type.elts if isinstance(node.type, ast.Tuple) else [node.type]
+            for one in taken:
+                self.assertIn(one.id, self.own)
+        for node in self.nodes(ast.Raise):
+            self.assertIsInstance(node.exc, ast.Call)
+            self.assertIn(node.exc.func.id, self.own)
+
     def test_l20_is(self):
         for node in self.nodes(ast.Compare):
             if any(isinstance(sign, (ast.Is, ast.IsNot)) for sign in node.ops):
