@@ -13,6 +13,10 @@ class NotOperations(Exception):
     pass
 
 
+class NotSecondDocument(Exception):
+    pass
+
+
 class Nowhere(Exception):
     pass
 

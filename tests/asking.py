@@ -1,9 +1,30 @@
-"""What the tests of the calls share: calling with bytes, and an answer made with Python's own json."""
+"""What the tests of the calls share: calling with bytes, checks of an answer, and one made with Python's own json."""
+import collections
 import json
+import unittest
 
-from patchwords.documents import at, patch
+from patchwords.documents import at, merge, patch
 
 NOT_DOCUMENT = -3
+TOO_LARGE = -7
+
+
+def nested(deep, innermost=b"[]"):
+    """Lists and members by turns; with the innermost one they are so many deep."""
+    for level in range(deep - 1):
+        innermost = b'{"a":' + innermost + b"}" if level % 2 else b"[" + innermost + b"]"
+    return innermost
+
+
+# Of each way in which bytes may be no document, one or more.
+WRONG_DOCUMENTS = (
+    b"", b" ", b"\t\r\n", b"[", b"]", b"{", b"}", b"[}", b"{]", b"[1", b'{"a":1', b"[1,]", b'{"a":1,}', b"[,1]", b"{,}", b"[1 2]", b"1 1",
+    b"{}{}", b"{}x", b"1,", b"null null", b"nul", b"Null", b"nulll", b"True", b"01", b"-0", b"-", b"+1", b"1.0", b"1e1", b"00", b"--1",
+    b"9223372036854775808", b"-9223372036854775809", b'"', b'"a', b'a"', b"'a'", b'"\n"', b'"\x1f"', b'"\\x"', b'"\\u12"', b'"\\u12g4"',
+    b'"\\ud800"', b'"\\udc00"', b'"\\ud800\\u0041"', b'"\\udc00\\ud800"', b'"\xff"', b'"\xc0\xaf"', b'"\xed\xa0\x80"', b'"\xf4\x90\x80\x80"',
+    b'"\xc3"', b"\xef\xbb\xbf{}", b"\x00", b"{}\x00", b'{"a"}', b'{"a":}', b'{:1}', b'{a:1}', b'{1:1}', b'{null:1}', b'{"a" 1}',
+    b'{"a":1 "b":2}', b'{"a":1,"a":1}', b'{"a":1,"\\u0061":2}', b'{"a":null,"a":null}', b'{"b":{"a":1,"a":1}}', b"[1,2,,3]",
+    nested(33), nested(33, b"{}"), b"[" * 33 + b"]" * 33, b'{"a":' * 32 + b"{}" + b"}" * 32, nested(34), b"[" * 65536)
 
 
 class Unchanging(list):
@@ -36,6 +57,36 @@ def ask_at(t, p=b""):
 
 def ask_patch(t, p):
     return ask(patch, t, p)
+
+
+def ask_merge(t, p):
+    return ask(merge, t, p)
+
+
+def shown(answer):
+    return answer[:80] if isinstance(answer, bytes) else answer
+
+
+class Checked(unittest.TestCase):
+    def check_answer(self, asked, t, p, wanted):
+        self.assertLessEqual(max(len(t), len(p)), 65536, "more can't be handed in")
+        with self.subTest(t=t[:80], p=p[:160]):
+            found = asked(t, p)
+            if found != wanted:
+                self.fail(f"answered {shown(found)!r}, not {shown(wanted)!r}")
+
+
+class Compared(unittest.TestCase):
+    def compare(self, asked, expected, calls, *limits):
+        """How many were answered with bytes (0), and with each refusal; expected tells what is to be answered."""
+        seen = collections.Counter()
+        for t, p in calls:
+            wanted = expected(t, p, *limits)
+            found = asked(t, p)
+            seen[wanted if isinstance(wanted, int) else 0] += 1
+            if found != wanted:
+                self.fail(f"{t!r} {p!r}: answered {found!r}, not {wanted!r}")
+        return seen
 
 
 def refuse_value(text):

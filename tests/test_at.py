@@ -1,9 +1,8 @@
 """Promise 1, at: ordinary documents and pointers, the edges that the document names, and wrong ones."""
-import contextlib
-import io
 import unittest
 
-from asking import NOT_DOCUMENT, ask_at
+from asking import NOT_DOCUMENT, Checked, ask_at
+from keeping import Keeping
 from patchwords.documents import at
 
 NOT_POINTER = -4
@@ -13,13 +12,9 @@ NOWHERE = -5
 SAMPLE = b'\t{ "a" : [ 1 , -20 , "\\u00e9\\ud83d\\ude00\\n" , { } , [ ] ] ,\r\n "b\xc3\xa9" : { "" : null , "c" : true , "d" : false } }'
 
 
-class Asked(unittest.TestCase):
+class Asked(Checked):
     def check(self, t, p, wanted):
-        with self.subTest(t=t[:80], p=p[:80]):
-            found = ask_at(t, p)
-            if found != wanted:
-                shown = [x[:80] if isinstance(x, bytes) else x for x in (found, wanted)]
-                self.fail(f"answered {shown[0]!r}, not {shown[1]!r}")
+        self.check_answer(ask_at, t, p, wanted)
 
     def check_all(self, rows):
         for t, p, wanted in rows:
@@ -34,7 +29,13 @@ class Asked(unittest.TestCase):
             self.check(t, b"", NOT_DOCUMENT)
 
 
-class TheForm(unittest.TestCase):
+class TheForm(Keeping, unittest.TestCase):
+    CALLS = [(SAMPLE, b""), (SAMPLE, b"/a"), (SAMPLE, b"/a/2"), (SAMPLE, b"/b\xc3\xa9/c"), (SAMPLE, b"/x"), (SAMPLE, b"~"), (b'{"a":1}', b"/a"),
+             (b'{"a":1', b"/a"), (b'{"a":1}', b"a"), (b"[]", b"/0"), (b"", b"")]
+
+    def call(self, t, p):
+        return at(t, p)
+
     def test_answer_is_length_then_bytes(self):
         self.assertEqual(at([91, 49, 44, 32, 50, 93], []), [5, 91, 49, 44, 50, 93])
         self.assertEqual(at([91, 49, 44, 32, 50, 93], [47, 49]), [1, 50])
@@ -43,35 +44,6 @@ class TheForm(unittest.TestCase):
         self.assertEqual(at([], []), [-3])
         self.assertEqual(at([49], [49]), [-4])
         self.assertEqual(at([49], [47]), [-5])
-
-    def test_handed_in_is_as_it_was(self):
-        for p in (b"", b"/a/2", b"/b\xc3\xa9/c", b"/x", b"~"):
-            given_t = list(SAMPLE)
-            given_p = list(p)
-            at(given_t, given_p)
-            self.assertEqual(given_t, list(SAMPLE))
-            self.assertEqual(given_p, list(p))
-
-    def test_nothing_is_kept(self):
-        calls = [(SAMPLE, b""), (SAMPLE, b"/a"), (b'{"a":1}', b"/a"), (b'{"a":1', b"/a"), (b'{"a":1}', b"a"), (b"[]", b"/0")]
-        first = [at(list(t), list(p)) for t, p in calls]
-        again = [at(list(t), list(p)) for t, p in calls]
-        backward = [at(list(t), list(p)) for t, p in reversed(calls)]
-        self.assertEqual(first, again)
-        self.assertEqual(first, backward[::-1])
-
-    def test_an_answer_is_the_callers_own(self):
-        first = at(list(SAMPLE), [])
-        wanted = list(first)
-        first.clear()
-        self.assertEqual(at(list(SAMPLE), []), wanted)
-
-    def test_nothing_is_printed(self):
-        shown = io.StringIO()
-        with contextlib.redirect_stdout(shown), contextlib.redirect_stderr(shown):
-            at(list(SAMPLE), list(b"/a"))
-            at([], [])
-        self.assertEqual(shown.getvalue(), "")
 
 
 class Leading(Asked):

@@ -12,6 +12,7 @@ from asking import depth, write
 from patchwords import documents
 from patchwords.changes import all_done
 from patchwords.characters import is_utf8
+from patchwords.merging import merged
 from patchwords.operations import read_operations
 from patchwords.reading import read_document
 from patchwords.refusals import TooLarge
@@ -98,6 +99,17 @@ class SizeAndDepth(unittest.TestCase):
             self.assertEqual(written(value), before, "a value was changed")
             value = changed
         self.assertEqual(bytes(written(value)), b"1")
+
+    def test_merged(self):
+        others = [{}, {"a": None}, {"a": {"b": None}}, {"a": [[[]]]}, {"": {"x": {"y": {"z": []}}}}, {"\"~": {"c": None}, "\n": "\t"},
+                  {"\"~": {"c": {"d": None}, "e": None, "f": {"g": None}}}, {"a": 1, "\"~": None, "new": {"": [{}]}}, [], 1, "\n"]
+        value = read_document(list(write(self.DOCUMENT)))
+        for plain in others + [self.DOCUMENT]:
+            other = read_document(list(write(plain)))
+            before = written(value), written(other)
+            self.check_measures(merged(value, other))
+            self.check_measures(merged(other, value))
+            self.assertEqual((written(value), written(other)), before, "a value was changed")
 
 
 class Utf8(unittest.TestCase):

@@ -5,7 +5,7 @@ import random
 import unittest
 from unittest import mock
 
-from asking import ask_patch, write
+from asking import Compared, ask_patch, write
 from patch_model import Cannot, another, do, expected_patch
 from patching import add, copy, move, remove, replace, tested
 from patchwords import writing
@@ -75,17 +75,9 @@ def chosen_rows(choice, document, many):
     return rows
 
 
-class AgainstModel(unittest.TestCase):
-    def check(self, calls, most_bytes=262144, deepest=64):
-        """How many were answered with bytes (0), and with each refusal."""
-        seen = collections.Counter()
-        for t, p in calls:
-            wanted = expected_patch(t, p, most_bytes, deepest)
-            found = ask_patch(t, p)
-            seen[wanted if isinstance(wanted, int) else 0] += 1
-            if found != wanted:
-                self.fail(f"{t!r} {p!r}: answered {found!r}, not {wanted!r}")
-        return seen
+class AgainstModel(Compared):
+    def check(self, calls, *limits):
+        return self.compare(ask_patch, expected_patch, calls, *limits)
 
     def test_single_operations(self):
         seen = self.check((write(SMALL), write([row])) for row in singles())

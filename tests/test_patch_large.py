@@ -1,8 +1,8 @@
 """Promise 2, patch: what makes a document too large, and inputs of the greatest length."""
 import unittest
 
-from asking import write
-from patching import NOT_DONE, TOO_LARGE, Patched, add, copy, move, nested, remove, replace, tested
+from asking import TOO_LARGE, nested, write
+from patching import NOT_DONE, Patched, add, copy, move, remove, replace, tested
 
 MOST = 262144
 CANNOT = remove("/nowhere")

@@ -1,8 +1,8 @@
 """Promise 2, patch: operations that can't be done, what isn't operations, and which refusal is told first."""
 import unittest
 
-from asking import NOT_DOCUMENT
-from patching import NOT_DONE, NOT_OPERATIONS, TOO_LARGE, Patched, add, copy, move, nested, remove, replace, tested
+from asking import NOT_DOCUMENT, TOO_LARGE, nested
+from patching import NOT_DONE, NOT_OPERATIONS, Patched, add, copy, move, remove, replace, tested
 
 MEMBERS = b'{"a":1,"b":[1,2],"c":{"d":null}}'
 LIST = b"[10,20,30]"
