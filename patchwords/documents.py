@@ -5,6 +5,7 @@ from patchwords.operations import read_operations
 from patchwords.pointers import follow, read_pointer
 from patchwords.reading import read_document
 from patchwords.refusals import NotDocument, NotDone, NotOperations, NotPointer, NotSecondDocument, Nowhere, TooLarge
+from patchwords.sameness import is_same
 from patchwords.writing import written
 
 
@@ -20,16 +21,29 @@ def merge(t, p):
     return answered(merged_with, t, p)
 
 
+def same(t, p):
+    return answered(compared, t, p)
+
+
 def found_at(document, p):
-    return follow(document, read_pointer(p))
+    return with_length(follow(document, read_pointer(p)))
 
 
 def patched(document, p):
-    return all_done(document, read_operations(p))
+    return with_length(all_done(document, read_operations(p)))
 
 
 def merged_with(document, p):
-    return merged(document, read_second(p))
+    return with_length(merged(document, read_second(p)))
+
+
+def compared(document, p):
+    return [1] if is_same(document, read_second(p)) else [0]
+
+
+def with_length(value):
+    found = written(value)
+    return [len(found)] + found
 
 
 # What p isn't has another number than what t isn't, though both are to be documents.
@@ -42,8 +56,7 @@ def read_second(p):
 
 def answered(work, t, p):
     try:
-        document = read_document(t)
-        found = written(work(document, p))
+        return work(read_document(t), p)
     except NotDocument:
         return [-3]
     except (NotPointer, NotOperations, NotSecondDocument):
@@ -52,4 +65,3 @@ def answered(work, t, p):
         return [-5]
     except TooLarge:
         return [-7]
-    return [len(found)] + found

@@ -3,9 +3,11 @@ import collections
 import json
 import unittest
 
-from patchwords.documents import at, merge, patch
+from patchwords.documents import at, merge, patch, same
 
 NOT_DOCUMENT = -3
+# p isn't what it's to be, where it's to be a document.
+NOT_SECOND = -4
 TOO_LARGE = -7
 
 
@@ -37,14 +39,20 @@ class Unchanging(list):
     __setitem__ = __delitem__ = __iadd__ = __imul__ = refuse
 
 
-def ask(call, t, p):
-    """A refusal's number, or the bytes that were answered."""
+def numbers(call, t, p):
+    """What was answered: a list of whole numbers, of which a refusal stands alone."""
     answer = call(Unchanging(t), Unchanging(p))
     if type(answer) is not list or any(type(number) is not int for number in answer):
         raise AssertionError(f"not a list of whole numbers: {answer!r}")
+    if answer[0] < 0 and len(answer) != 1:
+        raise AssertionError(f"a refusal doesn't stand alone: {answer!r}")
+    return answer
+
+
+def ask(call, t, p):
+    """A refusal's number, or the bytes that were answered."""
+    answer = numbers(call, t, p)
     if answer[0] < 0:
-        if len(answer) != 1:
-            raise AssertionError(f"a refusal doesn't stand alone: {answer!r}")
         return answer[0]
     if answer[0] != len(answer) - 1:
         raise AssertionError(f"{answer[0]} bytes were told, {len(answer) - 1} came")
@@ -63,6 +71,14 @@ def ask_merge(t, p):
     return ask(merge, t, p)
 
 
+def ask_same(t, p):
+    """A refusal's number, or 1 or 0."""
+    answer = numbers(same, t, p)
+    if len(answer) != 1 or answer[0] > 1:
+        raise AssertionError(f"not one number, 1 or 0: {answer!r}")
+    return answer[0]
+
+
 def shown(answer):
     return answer[:80] if isinstance(answer, bytes) else answer
 
@@ -78,7 +94,7 @@ class Checked(unittest.TestCase):
 
 class Compared(unittest.TestCase):
     def compare(self, asked, expected, calls, *limits):
-        """How many were answered with bytes (0), and with each refusal; expected tells what is to be answered."""
+        """How often each number was answered, with bytes counted as 0; expected tells what is to be answered."""
         seen = collections.Counter()
         for t, p in calls:
             wanted = expected(t, p, *limits)
@@ -138,6 +154,19 @@ def read(t, deepest):
     if depth(value) > deepest:
         raise ValueError("nested too deep")
     return value
+
+
+def expected_of_two(t, p, deepest, tell):
+    """What is to be answered where p is a value too, at most so many deep: the refusal of one that isn't, or what tell answers."""
+    try:
+        value = read(t, 32)
+    except ValueError:
+        return NOT_DOCUMENT
+    try:
+        other = read(p, deepest)
+    except ValueError:
+        return NOT_SECOND
+    return tell(value, other)
 
 
 def expected_whole(t):

@@ -1,5 +1,5 @@
 """What merge is to answer, told without the program: which members of each stay, then what each of these is."""
-from asking import depth, read, write
+from asking import depth, expected_of_two, write
 
 
 def merged(value, other):
@@ -13,13 +13,8 @@ def merged(value, other):
 
 
 def expected_merge(t, p, most_bytes=262144, deepest=64):
-    try:
-        value = read(t, 32)
-    except ValueError:
-        return -3
-    try:
-        other = read(p, 32)
-    except ValueError:
-        return -4
-    found = merged(value, other)
-    return -7 if len(write(found)) > most_bytes or depth(found) > deepest else write(found)
+    def tell(value, other):
+        found = merged(value, other)
+        return -7 if len(write(found)) > most_bytes or depth(found) > deepest else write(found)
+
+    return expected_of_two(t, p, 32, tell)

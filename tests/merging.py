@@ -1,8 +1,6 @@
 """What the tests of merge share: checks of an answer."""
 from asking import Checked, ask_merge
 
-NOT_SECOND = -4
-
 
 class Merged(Checked):
     def check(self, t, p, wanted):

@@ -2,7 +2,7 @@
 import json
 import re
 
-from asking import depth, read, write
+from asking import depth, expected_of_two, write
 
 POINTER = re.compile(r"(/([^/~]|~[01])*)*", re.DOTALL)
 PLACE = re.compile(r"0|[1-9][0-9]*")
@@ -109,14 +109,9 @@ def do_all(document, rows, most_bytes, deepest):
 
 
 def expected_patch(t, p, most_bytes=262144, deepest=64):
-    try:
-        document = read(t, 32)
-    except ValueError:
-        return -3
-    try:
-        rows = read(p, 34)
-    except ValueError:
-        return -4
-    if not isinstance(rows, list) or not all(map(is_operation, rows)):
-        return -4
-    return do_all(document, rows, most_bytes, deepest)
+    def tell(document, rows):
+        if not isinstance(rows, list) or not all(map(is_operation, rows)):
+            return -4
+        return do_all(document, rows, most_bytes, deepest)
+
+    return expected_of_two(t, p, 34, tell)

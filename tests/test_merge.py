@@ -1,9 +1,9 @@
 """Promise 3, merge: ordinary documents, and the edges that the document names."""
 import unittest
 
-from asking import NOT_DOCUMENT
+from asking import NOT_DOCUMENT, NOT_SECOND
 from keeping import Keeping
-from merging import NOT_SECOND, Merged
+from merging import Merged
 from patchwords.documents import merge
 
 # All that isn't members, as it is written.
@@ -14,7 +14,8 @@ MEMBERS = (b"{}", b'{"a":1}', b'{"a":null}', b'{"a":{"b":null}}', b'{"b":[1,2],"
 
 class TheForm(Keeping, unittest.TestCase):
     CALLS = [(b'{"a":{"b":1},"c":[1]}', b'{"a":{"b":null,"d":2},"c":null,"e":{"f":null}}'), (b'{"a":1}', b'{"a":{"b":1}}'),
-             (b'{"a":{"b":[1]},"c":null}', b"{}"), (b'{"a":1}', b"[1]"), (b"[1]", b'{"a":null}'), (b'{"a":1}', b"{}"), (b'{"a":1', b"{}"), (b'{"a":1}', b'{"a":1'),
+             (b'{"a":{"b":[1]},"c":null}', b"{}"),
+             (b'{"a":1}', b"[1]"), (b"[1]", b'{"a":null}'), (b'{"a":1}', b"{}"), (b'{"a":1', b"{}"), (b'{"a":1}', b'{"a":1'),
              (b'{"a":"' + b"\\n" * 30000 + b'"}', b'{"b":"' + b"\\n" * 30000 + b'"}')]
 
     def call(self, t, p):

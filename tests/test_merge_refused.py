@@ -1,34 +1,12 @@
 """Promise 3, merge: what isn't a document, which refusal is told first, and how deep t and p may be nested."""
 import unittest
 
-from asking import NOT_DOCUMENT, TOO_LARGE, WRONG_DOCUMENTS, nested
-from merging import NOT_SECOND, Merged
+from asking import NOT_DOCUMENT, NOT_SECOND, TOO_LARGE, nested
+from merging import Merged
+from two_documents import TwoDocuments
 
-RIGHT = (b"{}", b'{"a":1}', b"null", b"[1]", b'"a"', b'{"a":{"b":null}}')
 
-
-class NotDocuments(Merged):
-    def test_t(self):
-        for t in WRONG_DOCUMENTS:
-            for p in RIGHT:
-                self.check(t, p, NOT_DOCUMENT)
-
-    def test_p(self):
-        for p in WRONG_DOCUMENTS:
-            for t in RIGHT:
-                self.check(t, p, NOT_SECOND)
-
-    def test_both(self):
-        for t in WRONG_DOCUMENTS:
-            for p in (b"", b"{", b"01", b'"\xff"', nested(33), t):
-                self.check(t, p, NOT_DOCUMENT)
-                self.check(p, t, NOT_DOCUMENT)
-
-    def test_empty(self):
-        self.check(b"", b"{}", NOT_DOCUMENT)
-        self.check(b"{}", b"", NOT_SECOND)
-        self.check(b"", b"", NOT_DOCUMENT)
-
+class NotDocuments(TwoDocuments, Merged):
     # Though nothing of t is in the answer, it's to be a document.
     def test_t_where_p_takes_its_place(self):
         for p in (b"1", b"null", b"[]"):
@@ -41,12 +19,6 @@ class NotDocuments(Merged):
         self.check(b'{"a":1,"b":{"c":1,"c":2}}', b'{"b":null}', NOT_DOCUMENT)
         self.check(b'{"a":1}', b'{"a":null,"a":null}', NOT_SECOND)
         self.check(b'{"a":1}', b'{"a":null,"\\u0061":1}', NOT_SECOND)
-
-    def test_cut_short(self):
-        t = b'{"a":{"b":[1,"\\u00e9"]},"c":null}'
-        for size in range(len(t)):
-            self.check(t[:size], t, NOT_DOCUMENT)
-            self.check(t, t[:size], NOT_SECOND)
 
 
 class Nested(Merged):
@@ -76,11 +48,6 @@ class Nested(Merged):
             self.check(b'{"x":1,"y":' + value + b"}", b'{"y":null}', NOT_DOCUMENT)
             self.check(b'{"x":1}', b'{"x":null,"y":' + value + b"}", NOT_SECOND)
             self.check(b'{"x":1}', b'{"x":[' + value + b"]}", NOT_SECOND)
-
-    def test_brackets_alone(self):
-        for value in (b"[" * 65536, b'{"a":' * 13107, b"[" * 32768 + b"]" * 32768, b'{"":' * 16384):
-            self.check(value, b"1", NOT_DOCUMENT)
-            self.check(b"1", value, NOT_SECOND)
 
 
 class WhichIsTold(Merged):
