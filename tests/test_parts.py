@@ -70,6 +70,11 @@ class TooLargeToWrite(unittest.TestCase):
         with mock.patch.object(documents, "written", side_effect=TooLarge):
             self.assertEqual(documents.at([49], []), [-7])
 
+    def test_at_answers_it_behind_all_others(self):
+        with mock.patch.object(documents, "written", side_effect=TooLarge):
+            for t, p, wanted in ((b"[", b"", -3), (b"[", b"a", -3), (b"[]", b"a", -4), (b"[]", b"/0", -5), (b"[1]", b"/0", -7)):
+                self.assertEqual(documents.at(list(t), list(p)), [wanted])
+
 
 class SizeAndDepth(unittest.TestCase):
     DOCUMENT = {"a": [1, {"b": [[]]}, [], "\n\u00e9"], "": {}, "\"~": {"c": [{"d": None}], "e": -1}}
